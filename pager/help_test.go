@@ -110,6 +110,28 @@ func marked(t *testing.T, p *pager.Pager) int {
 	return m
 }
 
+// wantMark asks for a mark, which must have that number.
+func wantMark(t *testing.T, p *pager.Pager, want int) {
+	t.Helper()
+	if got := marked(t, p); got != want {
+		t.Fatalf("mark %d, want %d", got, want)
+	}
+}
+
+// wantNone asks that none of these be a mark any more, or yet; what is refused changes nothing.
+func wantNone(t *testing.T, p *pager.Pager, marks ...int) {
+	t.Helper()
+	pages, changed := p.Pages(), p.Changed()
+	for _, m := range marks {
+		if e := p.Undo(m); e != api.ErrNone {
+			t.Fatalf("Undo(%d): %s, want %s", m, e, api.ErrNone)
+		}
+	}
+	if p.Pages() != pages || !slices.Equal(p.Changed(), changed) {
+		t.Fatalf("%d pages, changed %v; want %d, %v", p.Pages(), p.Changed(), pages, changed)
+	}
+}
+
 // wantPages holds all that Get tells against what is wanted.
 func wantPages(t *testing.T, p *pager.Pager, want ...[]byte) {
 	t.Helper()

@@ -24,10 +24,11 @@ func (v version) copied() version {
 
 // model is what a pager means, without cache and journal.
 type model struct {
-	room    int
-	sure    [][]byte
-	now     version
-	marks   []version
+	room int
+	sure [][]byte
+	now  version
+	// marks are all since Begin, each at its number; nil are those that were undone past.
+	marks   []*version
 	busy    bool
 	commits int
 }
@@ -85,7 +86,8 @@ func (m *model) mark() (int, api.Errno) {
 	if !m.busy {
 		return 0, api.ErrState
 	}
-	m.marks = append(m.marks, m.now.copied())
+	v := m.now.copied()
+	m.marks = append(m.marks, &v)
 	return len(m.marks), api.OK
 }
 
@@ -93,11 +95,11 @@ func (m *model) undo(n int) api.Errno {
 	if !m.busy {
 		return api.ErrState
 	}
-	if n < 1 || n > len(m.marks) {
+	if n < 1 || n > len(m.marks) || m.marks[n-1] == nil {
 		return api.ErrNone
 	}
 	m.now = m.marks[n-1].copied()
-	m.marks = m.marks[:n]
+	clear(m.marks[n:])
 	return api.OK
 }
 

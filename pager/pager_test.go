@@ -212,9 +212,7 @@ func TestRollback(t *testing.T) {
 	wantErr(t, "Rollback once more", p.Rollback(), api.ErrState)
 	must(t, p.Begin())
 	wantErr(t, "Undo of a mark ahead of Begin", p.Undo(1), api.ErrNone)
-	if m := marked(t, p); m != 1 {
-		t.Errorf("the first mark is %d", m)
-	}
+	wantMark(t, p, 1)
 	must(t, p.Rollback())
 	wantPages(t, p, pages(1, 2, 3)...)
 }
@@ -222,19 +220,13 @@ func TestRollback(t *testing.T) {
 func TestMarks(t *testing.T) {
 	d := diskOf(t, 200, pages(1, 2, 3)...)
 	p := begun(t, d)
-	if m := marked(t, p); m != 1 {
-		t.Errorf("the first mark is %d", m)
-	}
+	wantMark(t, p, 1)
 	must(t, p.Put(1, page(11)))
-	if m := marked(t, p); m != 2 {
-		t.Errorf("the second mark is %d", m)
-	}
+	wantMark(t, p, 2)
 	must(t, p.Put(1, page(21)))
 	must(t, p.Shrink(1))
 	grown(t, p, page(22))
-	if m := marked(t, p); m != 3 {
-		t.Errorf("the third mark is %d", m)
-	}
+	wantMark(t, p, 3)
 	must(t, p.Shrink(0))
 	wantPages(t, p)
 
@@ -259,23 +251,118 @@ func TestMarks(t *testing.T) {
 	wantChanged(t, p)
 	wantErr(t, "Undo of a mark that was undone past", p.Undo(2), api.ErrNone)
 	must(t, p.Put(3, page(43)))
-	if m := marked(t, p); m != 2 {
-		t.Errorf("the mark behind the first is %d", m)
-	}
+	wantMark(t, p, 4)
 	must(t, p.Put(3, page(53)))
-	must(t, p.Undo(2))
+	wantNone(t, p, 2, 3)
+	must(t, p.Undo(4))
 	must(t, p.Commit())
 	wantDisk(t, d, pages(1, 2, 43)...)
 	must(t, p.Begin())
 	wantErr(t, "Undo of a mark ahead of Begin", p.Undo(1), api.ErrNone)
 }
 
+func TestAMarkThatWasUndonePastStaysGone(t *testing.T) {
+	p := begun(t, disk.New(100))
+	wantMark(t, p, 1)
+	wantMark(t, p, 2)
+	must(t, p.Undo(1))
+	wantNone(t, p, 2, 3)
+	wantMark(t, p, 3)
+	wantNone(t, p, 2, 4)
+	must(t, p.Undo(3))
+	must(t, p.Undo(3))
+	wantMark(t, p, 4)
+	wantMark(t, p, 5)
+	must(t, p.Undo(4))
+	wantNone(t, p, 2, 5, 6)
+	wantMark(t, p, 6)
+	must(t, p.Undo(3))
+	wantNone(t, p, 2, 4, 5, 6)
+	must(t, p.Undo(1))
+	wantNone(t, p, 2, 3, 4, 5, 6, 7)
+	wantMark(t, p, 7)
+	must(t, p.Undo(7))
+}
+
+func TestPagesOfMarksThatCameBehindThoseThatWent(t *testing.T) {
+	d := diskOf(t, 200, pages(1, 2)...)
+	p := begun(t, d)
+	grown(t, p, page(3))
+	wantMark(t, p, 1)
+	grown(t, p, page(4))
+	must(t, p.Put(1, page(11)))
+	wantMark(t, p, 2)
+	must(t, p.Undo(1))
+	wantPages(t, p, pages(1, 2, 3)...)
+	grown(t, p, page(24))
+	grown(t, p, page(25))
+	wantMark(t, p, 3)
+	must(t, p.Shrink(1))
+	wantNone(t, p, 2)
+	wantPages(t, p, page(1))
+	wantChanged(t, p)
+	must(t, p.Undo(3))
+	wantPages(t, p, pages(1, 2, 3, 24, 25)...)
+	wantChanged(t, p, 3, 4, 5)
+	must(t, p.Put(2, page(32)))
+	wantMark(t, p, 4)
+	must(t, p.Undo(1))
+	wantPages(t, p, pages(1, 2, 3)...)
+	wantChanged(t, p, 3)
+	wantNone(t, p, 2, 3, 4)
+	must(t, p.Commit())
+	wantDisk(t, d, pages(1, 2, 3)...)
+}
+
+func TestMarksOfTheNextTransaction(t *testing.T) {
+	ends := []func(t *testing.T, p *pager.Pager){
+		func(t *testing.T, p *pager.Pager) { must(t, p.Rollback()) },
+		func(t *testing.T, p *pager.Pager) { must(t, p.Commit()) },
+		func(t *testing.T, p *pager.Pager) {
+			must(t, p.Put(1, page(2)))
+			must(t, p.Commit())
+		},
+	}
+	for _, end := range ends {
+		p := opened(t, diskOf(t, 200, page(1)))
+		for range 3 {
+			must(t, p.Begin())
+			wantNone(t, p, 1, 2, 3, 4)
+			wantMark(t, p, 1)
+			wantMark(t, p, 2)
+			must(t, p.Undo(1))
+			wantMark(t, p, 3)
+			wantNone(t, p, 2, 4)
+			must(t, p.Undo(3))
+			must(t, p.Undo(1))
+			end(t, p)
+		}
+	}
+}
+
+func TestAFullDiskLeavesMarksAsTheyAre(t *testing.T) {
+	p := begun(t, diskOf(t, 4, page(1)))
+	wantMark(t, p, 1)
+	must(t, p.Put(1, page(2)))
+	wantMark(t, p, 2)
+	must(t, p.Undo(1))
+	must(t, p.Put(1, page(3)))
+	wantMark(t, p, 3)
+	wantErr(t, "Commit without room", p.Commit(), api.ErrFull)
+	wantNone(t, p, 2, 4)
+	wantMark(t, p, 4)
+	must(t, p.Undo(3))
+	wantPages(t, p, page(3))
+	must(t, p.Undo(1))
+	wantPages(t, p, page(1))
+	wantNone(t, p, 2, 3, 4)
+	wantMark(t, p, 5)
+}
+
 func TestMarksWithoutAChangeBetween(t *testing.T) {
 	p := begun(t, diskOf(t, 200, page(1)))
 	for i := 1; i <= 20; i++ {
-		if m := marked(t, p); m != i {
-			t.Fatalf("mark %d, want %d", m, i)
-		}
+		wantMark(t, p, i)
 	}
 	must(t, p.Put(1, page(2)))
 	for i := 20; i >= 1; i-- {

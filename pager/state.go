@@ -1,6 +1,7 @@
 package pager
 
 import (
+	"cmp"
 	"maps"
 	"slices"
 
@@ -64,6 +65,19 @@ func (s state) pagesChanged() []int {
 	return slices.Sorted(maps.Keys(s.changed))
 }
 
+// mark is what a transaction had made of the pages when it was asked for a mark. Its number is kept beside it, for that of a mark that was undone past is not given again.
+type mark struct {
+	number int
+	then   state
+}
+
+// find is where among the marks that number stands; not ok: there is no such mark, or it was undone past.
+func (p *Pager) find(number int) (int, bool) {
+	return slices.BinarySearchFunc(p.marks, number, func(m mark, number int) int {
+		return cmp.Compare(m.number, number)
+	})
+}
+
 // has is whether there is such a page, as the transaction has it.
 func (p *Pager) has(page int) bool {
 	return page >= 1 && page <= p.now.pages
@@ -104,5 +118,5 @@ func (p *Pager) settle() {
 func (p *Pager) end() {
 	p.busy = false
 	p.now = state{pages: p.pages, changed: map[int][]byte{}}
-	p.marks = nil
+	p.marks, p.last = nil, 0
 }
